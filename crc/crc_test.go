@@ -403,8 +403,9 @@ func TestTurnedBitsAreTold(t *testing.T) {
 func TestAllShortTurnsAreTold(t *testing.T) {
 	b := []byte("mill")
 	whole := binary.LittleEndian.AppendUint32(bytes.Clone(b), Sum(b))
-	for place := range len(whole)*8 - 15 {
-		for pattern := uint32(1); pattern < 1<<16; pattern += 2 {
+	for place := range len(whole) * 8 {
+		room := min(16, len(whole)*8-place)
+		for pattern := uint32(1); pattern < 1<<room; pattern += 2 {
 			if spoilt := turned(whole, place, pattern); fits(spoilt) {
 				t.Fatalf("% x, turned at %d by %04x, fits", whole, place, pattern)
 			}
